@@ -1,0 +1,224 @@
+"""Refusals of walk, and which of several counts."""
+
+import unittest
+
+from tests.helper import drawing, inner_places, inner_sides, open_garden, signs, thrown_gardens
+from threadwalk.desk import walk
+
+TOO_LONG = [-2]
+NO_SQUARE = [-4]
+AT_FAULT = [-6]
+LARGEST = 4294967295
+
+SMALL = """
+    +-+-+-+
+    |     |
+    + +-+ +
+    | |   |
+    +-+-+-+
+"""
+
+# Its first rows are gardens themselves, for a level line without a blank may be the last.
+STACKED = """
+    +-+-+
+    |   |
+    +-+-+
+    | | |
+    +-+-+
+    |   |
+    +-+-+
+"""
+
+
+class TooLong(unittest.TestCase):
+    def test_1024_bytes_are_not_too_many(self):
+        for sign in (0, 10, 32, 43, 45, 124, 255):
+            self.assertEqual(walk(0, [sign] * 1024), AT_FAULT)
+
+    def test_1025_bytes_are_too_many(self):
+        for sign in (0, 10, 32, 43, 45, 124, 255):
+            self.assertEqual(walk(0, [sign] * 1025), TOO_LONG)
+
+    def test_4000_bytes_are_too_many(self):
+        self.assertEqual(walk(0, [32] * 4000), TOO_LONG)
+
+    def test_a_drawing_with_bytes_behind_it(self):
+        garden = open_garden(10, 10)
+        self.assertEqual(walk(0, garden + [10] * (1024 - len(garden))), AT_FAULT)
+        self.assertEqual(walk(0, garden + [10] * (1025 - len(garden))), TOO_LONG)
+        self.assertEqual(walk(0, garden + [10] * (4000 - len(garden))), TOO_LONG)
+
+    def test_a_drawing_by_its_form_that_is_too_long(self):
+        wide = signs("+" + "-+" * 200 + "\n|" + " |" * 200 + "\n+" + "-+" * 200)
+        self.assertGreater(len(wide), 1024)
+        self.assertEqual(walk(0, wide), TOO_LONG)
+
+
+class AtFault(unittest.TestCase):
+    def assert_at_fault(self, garden):
+        self.assertEqual(walk(0, garden), AT_FAULT)
+
+    def assert_no_fault(self, garden):
+        self.assertEqual(walk(0, garden)[:2], [0, 0])
+
+    def test_the_empty_drawing(self):
+        self.assert_at_fault([])
+
+    def test_a_drawing_that_breaks_off(self):
+        for garden in (signs("+-+\n| |\n+-+"), signs(SMALL), open_garden(10, 10)):
+            self.assert_no_fault(garden)
+            for length in range(len(garden)):
+                self.assert_at_fault(garden[:length])
+
+    def test_a_drawing_that_breaks_off_where_it_may_end(self):
+        garden = signs(STACKED)
+        for length in range(len(garden) + 1):
+            if length in (18, 30, 42):
+                self.assert_no_fault(garden[:length])
+            else:
+                self.assert_at_fault(garden[:length])
+
+    def assert_each_byte_counts(self, wide, high, passages):
+        garden = drawing(wide, high, passages)
+        line = 2 * wide + 2
+        free = inner_places(wide, high)
+        for place in range(len(garden)):
+            hedge = 45 if place // line % 2 == 0 else 124
+            for sign in range(256):
+                made = garden[:place] + [sign] + garden[place + 1:]
+                if made == garden or (place in free and sign in (32, hedge)):
+                    self.assert_no_fault(made)
+                else:
+                    self.assert_at_fault(made)
+
+    def test_each_byte_made_another(self):
+        self.assert_each_byte_counts(1, 1, [])
+        self.assert_each_byte_counts(3, 2, [0, 1, 3, 4, 6])
+        for wide, high, passages in thrown_gardens(6, 5):
+            self.assert_each_byte_counts(wide, high, passages)
+
+    def test_each_byte_of_the_largest_made_another_sign(self):
+        garden = open_garden(10, 10)
+        free = inner_places(10, 10)
+        for place in range(len(garden)):
+            for sign in (0, 10, 13, 32, 43, 45, 124, 255):
+                hedge = 45 if place // 22 % 2 == 0 else 124
+                if sign != garden[place] and not (place in free and sign == hedge):
+                    self.assert_at_fault(garden[:place] + [sign] + garden[place + 1:])
+
+    def test_a_byte_left_out_or_put_in(self):
+        garden = signs(SMALL)
+        for place in range(len(garden)):
+            self.assert_at_fault(garden[:place] + garden[place + 1:])
+            for sign in (10, 32, 43, 45, 124):
+                self.assert_at_fault(garden[:place] + [sign] + garden[place:])
+
+    def test_bytes_behind_its_end(self):
+        for garden in (signs("+-+\n| |\n+-+"), signs(SMALL), open_garden(10, 10)):
+            for sign in range(256):
+                self.assert_at_fault(garden + [sign])
+            self.assert_at_fault(garden + garden)
+            self.assert_at_fault(garden + garden[-2:])
+
+    def test_a_row_behind_its_end_is_a_row_more(self):
+        garden = signs("+-+\n| |\n+-+")
+        self.assertEqual(walk(1, garden), NO_SQUARE)
+        self.assertEqual(walk(1, garden + garden[4:]), [0, 1])
+        self.assert_at_fault(garden + garden[4:8])
+
+    def test_an_11th_column(self):
+        for high in (1, 5, 10):
+            self.assert_no_fault(drawing(10, high, []))
+            self.assert_at_fault(drawing(11, high, []))
+            self.assert_at_fault(open_garden(11, high))
+
+    def test_an_11th_row(self):
+        for wide in (1, 5, 10):
+            self.assert_no_fault(drawing(wide, 10, []))
+            self.assert_at_fault(drawing(wide, 11, []))
+            self.assert_at_fault(open_garden(wide, 11))
+
+    def test_an_11th_row_behind_a_border_without_a_blank(self):
+        passages = [number for number, pair in enumerate(inner_sides(3, 11)) if pair[1] < 30]
+        self.assert_at_fault(drawing(3, 11, passages))
+
+    def test_no_column_and_no_row(self):
+        self.assert_at_fault(signs("+\n|\n+"))
+        self.assert_at_fault(signs("+\n+\n+"))
+        self.assert_at_fault(signs("+-+"))
+        self.assert_at_fault(signs("+"))
+        self.assert_at_fault([10])
+        self.assert_at_fault([10, 10, 10])
+
+    def test_a_level_line_with_a_blank_is_not_the_last(self):
+        self.assert_at_fault(signs("+-+-+\n|   |\n+ +-+"))
+        self.assert_at_fault(signs("+-+-+\n|   |\n+-+ +"))
+        self.assert_at_fault(signs("+-+\n| |\n+ +"))
+        line = 2 * 2 + 2
+        for number, row in ((3, 1), (4, 1), (5, 2), (6, 2)):
+            garden = drawing(2, 3, [number])
+            self.assert_no_fault(garden)
+            self.assert_at_fault(garden[:(2 * row + 1) * line])
+
+    def test_a_blank_in_the_first_line(self):
+        self.assert_at_fault(signs("+-+ +\n|   |\n+-+-+"))
+
+    def test_a_blank_in_the_border_beside(self):
+        self.assert_at_fault(list("+-+-+\n    |\n+-+-+\n".encode()))
+        self.assert_at_fault(list("+-+-+\n|    \n+-+-+\n".encode()))
+
+    def test_lines_of_unlike_length(self):
+        lines = ["+-+-+\n", "|   |\n", "+ +-+\n", "|   |\n", "+-+-+\n"]
+        longer = ["+-+-+-+\n", "|     |\n", "+ +-+ +\n", "|     |\n", "+-+-+-+\n"]
+        shorter = ["+-+\n", "| |\n", "+ +\n", "| |\n", "+-+\n"]
+        self.assert_no_fault(list("".join(lines).encode()))
+        for place in range(5):
+            for others in (longer, shorter):
+                made = "".join(lines[:place] + [others[place]] + lines[place + 1:])
+                self.assert_at_fault(list(made.encode()))
+
+    def test_unlike_lengths_that_make_up_for_one_another(self):
+        self.assert_at_fault(signs("+-+-+\n|  |\n+ +-+-\n|   |\n+-+-+"))
+        self.assert_at_fault(list("+-+-+\n|   |+\n-+-+\n".encode()))
+
+    def test_an_even_number_of_signs_or_lines(self):
+        self.assert_at_fault(signs("+-+-\n|  |\n+-+-"))
+        self.assert_at_fault(signs("+-+\n| |\n| |\n+-+"))
+
+    def test_other_row_ends(self):
+        self.assert_at_fault(list("+-+\r\n| |\r\n+-+\r\n".encode()))
+        self.assert_at_fault(list("+-+\r| |\r+-+\r".encode()))
+        self.assert_at_fault(list("\n+-+\n| |\n+-+\n".encode()))
+
+
+class NoSuchSquare(unittest.TestCase):
+    def test_about_the_number_of_squares(self):
+        for wide, high in ((1, 1), (1, 10), (10, 1), (4, 3), (3, 4), (10, 10)):
+            garden = open_garden(wide, high)
+            count = wide * high
+            self.assertEqual(walk(count - 1, garden)[:2], [0, count - 1])
+            self.assertEqual(walk(count, garden), NO_SQUARE)
+            self.assertEqual(walk(count + 1, garden), NO_SQUARE)
+            self.assertEqual(walk(LARGEST, garden), NO_SQUARE)
+
+    def test_in_a_garden_of_hedges_alone(self):
+        garden = drawing(3, 3, [])
+        self.assertEqual(walk(8, garden), [0, 8])
+        self.assertEqual(walk(9, garden), NO_SQUARE)
+
+
+class WhichCounts(unittest.TestCase):
+    def test_at_fault_and_too_long(self):
+        garden = signs(SMALL) + [0] * 1024
+        self.assertEqual(walk(0, garden), TOO_LONG)
+
+    def test_too_long_and_no_such_square(self):
+        self.assertEqual(walk(LARGEST, [0] * 1025), TOO_LONG)
+        self.assertEqual(walk(LARGEST, signs(SMALL) + [0] * 1024), TOO_LONG)
+
+    def test_at_fault_and_no_such_square(self):
+        garden = signs(SMALL)
+        self.assertEqual(walk(6, garden), NO_SQUARE)
+        self.assertEqual(walk(6, garden[:-1]), AT_FAULT)
+        self.assertEqual(walk(LARGEST, garden + [32]), AT_FAULT)
+        self.assertEqual(walk(LARGEST, []), AT_FAULT)

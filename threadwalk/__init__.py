@@ -1,0 +1,1 @@
+"""Threadwalk: walks a garden's room along a thread, without a map."""
