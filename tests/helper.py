@@ -6,6 +6,42 @@ Nothing here is drawn from the program, so that both can be held against one ano
 WIDEST = 10
 HIGHEST = 10
 
+ONE_SQUARE = """
+    +-+
+    | |
+    +-+
+"""
+
+RING = """
+    +-+-+
+    |   |
+    + + +
+    |   |
+    +-+-+
+"""
+
+ROOMS = """
+    +-+-+-+-+
+    |   |   |
+    + + +-+ +
+    |   | | |
+    +-+-+-+ +
+    |       |
+    +-+-+-+-+
+"""
+
+TALL = """
+    +-+-+
+    | | |
+    + + +
+    |   |
+    +-+ +
+    | | |
+    + +-+
+    |   |
+    +-+-+
+"""
+
 
 def signs(text):
     """The bytes of a drawing that a test writes as text, indented as it likes; a blank line is left out."""
@@ -97,6 +133,20 @@ def told_walk(around, start):
         squares.append(then)
 
 
+def told_thread(squares):
+    """The squares of the thread that lies behind these squares of a walk: along what was gone just once."""
+    steps = list(zip(squares, squares[1:]))
+    gone = set(steps)
+    return squares[:1] + [there for here, there in steps if (there, here) not in gone]
+
+
+def turned(wide, high, passages, seen):
+    """The drawing with every inner side turned about that is at none of these squares."""
+    sides = inner_sides(wide, high)
+    elsewhere = [number for number, pair in enumerate(sides) if not seen & set(pair)]
+    return drawing(wide, high, set(passages) ^ set(elsewhere))
+
+
 class Chances:
     """Numbers that look thrown but are the same on every run and every Python."""
 
@@ -122,13 +172,33 @@ def thrown_gardens(seed, count):
     return answer
 
 
-def small_gardens():
-    """Every garden of at most 10 inner sides: (wide, high, passages)."""
+def small_gardens(most_sides):
+    """Every garden of at most so many inner sides: (wide, high, passages)."""
     answer = []
     for wide in range(1, WIDEST + 1):
         for high in range(1, HIGHEST + 1):
             count = len(inner_sides(wide, high))
-            if count <= 10:
+            if count <= most_sides:
                 for choice in range(2 ** count):
                     answer.append((wide, high, [n for n in range(count) if choice >> n & 1]))
     return answer
+
+
+def all_open():
+    """A garden with all passages of each size: (wide, high, passages)."""
+    sizes = [(wide, high) for wide in range(1, WIDEST + 1) for high in range(1, HIGHEST + 1)]
+    return [(wide, high, range(len(inner_sides(wide, high)))) for wide, high in sizes]
+
+
+def some_squares(wide, high):
+    """The squares at the corners and one about the middle."""
+    last = wide * high - 1
+    return sorted({0, wide - 1, last // 2, last - wide + 1, last})
+
+
+def snake():
+    """The longest way there is, row by row there and back through 10 by 10: (its squares, the drawing)."""
+    rows = [list(range(10 * y, 10 * y + 10)) for y in range(10)]
+    way = [square for y, row in enumerate(rows) for square in (row if y % 2 == 0 else row[::-1])]
+    joined = {(min(pair), max(pair)) for pair in zip(way, way[1:])}
+    return way, drawing(10, 10, [number for number, pair in enumerate(inner_sides(10, 10)) if pair in joined])

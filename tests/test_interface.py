@@ -1,4 +1,4 @@
-"""How walk is called: what is handed in stays, nothing is kept, nothing is printed, nothing nests deep."""
+"""How calls are made: what is handed in stays, nothing is kept, nothing is printed, nothing nests deep."""
 
 import contextlib
 import inspect
@@ -6,9 +6,15 @@ import io
 import sys
 import unittest
 
-from tests.helper import drawing, inner_sides, open_garden, signs, thrown_gardens
-from threadwalk import desk
-from threadwalk.desk import walk
+from tests.helper import drawing, open_garden, signs, snake, thrown_gardens
+from threadwalk.desk import at, walk
+
+LARGEST = 4294967295
+
+ARGUMENTS = (
+    (walk, ["s", "garden"]),
+    (at, ["s", "i", "garden"]),
+)
 
 
 class Watched(list):
@@ -22,73 +28,80 @@ class Watched(list):
 
 
 def calls():
-    """Calls of all kinds, answered and refused: (s, garden)."""
+    """Calls of all kinds, answered and refused: (function, numbers handed in ahead, garden)."""
     gardens = [drawing(wide, high, passages) for wide, high, passages in thrown_gardens(7, 40)]
-    gardens += [open_garden(10, 10), [], [0] * 1025, open_garden(3, 3)[:-1]]
-    return [(s, garden) for garden in gardens for s in (0, 7, 4294967295)]
+    gardens += [open_garden(10, 10), [], [0] * 1025, [0] * 4000, open_garden(3, 3)[:-1]]
+    numbers = []
+    for s in (0, 7, LARGEST):
+        numbers.append((walk, (s,)))
+        numbers += [(at, (s, i)) for i in (0, 1, 6, 20, LARGEST)]
+    return [(call, ahead, garden) for garden in gardens for call, ahead in numbers]
 
 
 class Interface(unittest.TestCase):
-    def test_its_arguments(self):
-        self.assertEqual(list(inspect.signature(desk.walk).parameters), ["s", "garden"])
-        self.assertEqual(walk(s=1, garden=open_garden(2, 1)), [0, 1, 0, 1])
+    def test_their_arguments(self):
+        for call, names in ARGUMENTS:
+            self.assertEqual(list(inspect.signature(call).parameters), names)
 
-    def test_it_gives_back_a_list_of_whole_numbers(self):
-        for s, garden in calls():
-            answer = walk(s, garden)
+    def test_their_arguments_by_name(self):
+        self.assertEqual(walk(s=1, garden=open_garden(2, 1)), [0, 1, 0, 1])
+        self.assertEqual(at(s=1, i=2, garden=open_garden(2, 1)), [0, 1, 0, 2])
+
+    def test_they_give_back_a_list_of_whole_numbers(self):
+        for call, ahead, garden in calls():
+            answer = call(*ahead, garden)
             self.assertIs(type(answer), list)
             self.assertEqual({type(number) for number in answer}, {int})
             if answer[0] != 0:
                 self.assertEqual(len(answer), 1)
 
     def test_the_list_handed_in_is_the_same_behind_the_call(self):
-        for s, garden in calls():
+        for call, ahead, garden in calls():
             before = list(garden)
-            walk(s, garden)
+            call(*ahead, garden)
             self.assertEqual(garden, before)
 
     def test_the_list_handed_in_is_not_changed_for_a_while(self):
-        for s, garden in calls():
-            self.assertEqual(walk(s, Watched(garden)), walk(s, garden))
+        for call, ahead, garden in calls():
+            self.assertEqual(call(*ahead, Watched(garden)), call(*ahead, garden))
 
     def test_a_second_call_answers_the_same(self):
-        first = [walk(s, garden) for s, garden in calls()]
-        for s, garden in reversed(calls()):
-            self.assertEqual(walk(s, garden), walk(s, garden))
-        self.assertEqual([walk(s, garden) for s, garden in calls()], first)
+        first = [call(*ahead, garden) for call, ahead, garden in calls()]
+        for call, ahead, garden in reversed(calls()):
+            self.assertEqual(call(*ahead, garden), call(*ahead, garden))
+        self.assertEqual([call(*ahead, garden) for call, ahead, garden in calls()], first)
 
     def test_answers_are_lists_of_their_own(self):
-        for s, garden in calls():
-            first = walk(s, garden)
+        for call, ahead, garden in calls():
+            first = call(*ahead, garden)
             kept = list(first)
             first.clear()
-            self.assertEqual(walk(s, garden), kept)
+            self.assertEqual(call(*ahead, garden), kept)
 
     def test_a_garden_changed_between_calls_is_read_anew(self):
         garden = signs("+-+-+\n|   |\n+-+-+")
         self.assertEqual(walk(0, garden), [0, 0, 1, 0])
+        self.assertEqual(at(0, 1, garden), [0, 1, 1, 2])
         garden[8] = ord("|")
         self.assertEqual(walk(0, garden), [0, 0])
+        self.assertEqual(at(0, 1, garden), [-5])
         garden[8] = ord("x")
         self.assertEqual(walk(0, garden), [-6])
+        self.assertEqual(at(0, 1, garden), [-6])
 
-    def test_it_prints_nothing(self):
+    def test_they_print_nothing(self):
         printed = io.StringIO()
         with contextlib.redirect_stdout(printed), contextlib.redirect_stderr(printed):
-            for s, garden in calls():
-                walk(s, garden)
+            for call, ahead, garden in calls():
+                call(*ahead, garden)
         self.assertEqual(printed.getvalue(), "")
 
     def test_the_longest_thread_needs_few_calls_within_one_another(self):
-        rows = [list(range(10 * y, 10 * y + 10)) for y in range(10)]
-        snake = [square for y, row in enumerate(rows) for square in (row if y % 2 == 0 else row[::-1])]
-        joined = {(min(pair), max(pair)) for pair in zip(snake, snake[1:])}
-        passages = [number for number, pair in enumerate(inner_sides(10, 10)) if pair in joined]
-        garden = drawing(10, 10, passages)
+        way, garden = snake()
         limit = sys.getrecursionlimit()
         sys.setrecursionlimit(len(inspect.stack()) + 30)
         try:
-            answer = walk(0, garden)
+            answers = [walk(0, garden), at(0, 99, garden), at(0, LARGEST, garden)]
         finally:
             sys.setrecursionlimit(limit)
-        self.assertEqual(answer, [0] + snake + snake[-2::-1])
+        self.assertEqual(answers, [[0] + way + way[-2::-1], [0, 90, 99, 100], [-5]])

@@ -2,44 +2,8 @@
 
 import unittest
 
-from tests.helper import open_garden, signs
+from tests.helper import ONE_SQUARE, RING, ROOMS, TALL, open_garden, signs
 from threadwalk.desk import walk
-
-ONE_SQUARE = """
-    +-+
-    | |
-    +-+
-"""
-
-RING = """
-    +-+-+
-    |   |
-    + + +
-    |   |
-    +-+-+
-"""
-
-ROOMS = """
-    +-+-+-+-+
-    |   |   |
-    + + +-+ +
-    |   | | |
-    +-+-+-+ +
-    |       |
-    +-+-+-+-+
-"""
-
-TALL = """
-    +-+-+
-    | | |
-    + + +
-    |   |
-    +-+ +
-    | | |
-    + +-+
-    |   |
-    +-+-+
-"""
 
 ALL_OPEN = """
     0 1 2 3 4 5 6 7 8 9 19 29 39 49 59 69 79 89 99

@@ -1,9 +1,9 @@
-"""D1 and D3, and the walk's own words, over many gardens."""
+"""D1 and D3 of walk, and the walk's own words, over many gardens."""
 
 import unittest
 
 from tests.helper import (
-    HIGHEST, WIDEST, Chances, beside, drawing, inner_sides, room, small_gardens, thrown_gardens, told_walk,
+    Chances, all_open, beside, drawing, room, small_gardens, some_squares, thrown_gardens, told_walk, turned,
 )
 from threadwalk.desk import walk
 
@@ -15,12 +15,6 @@ def walks(gardens):
         bytes_drawn = drawing(wide, high, passages)
         for start in range(wide * high):
             yield around, start, walk(start, bytes_drawn)
-
-
-def all_open():
-    """A garden with all passages of each size."""
-    sizes = [(wide, high) for wide in range(1, WIDEST + 1) for high in range(1, HIGHEST + 1)]
-    return [(wide, high, range(len(inner_sides(wide, high)))) for wide, high in sizes]
 
 
 class EachPassageOnceEachWay(unittest.TestCase):
@@ -36,7 +30,7 @@ class EachPassageOnceEachWay(unittest.TestCase):
             self.assertEqual(set(squares), found)
 
     def test_all_small_gardens(self):
-        self.assert_promised(small_gardens())
+        self.assert_promised(small_gardens(10))
 
     def test_open_gardens_of_all_sizes(self):
         self.assert_promised(all_open())
@@ -51,7 +45,7 @@ class AsTheWordsTellIt(unittest.TestCase):
             self.assertEqual(answer, [0] + told_walk(around, start))
 
     def test_all_small_gardens(self):
-        self.assert_told(small_gardens())
+        self.assert_told(small_gardens(10))
 
     def test_thrown_gardens(self):
         self.assert_told(thrown_gardens(2, 12))
@@ -60,30 +54,23 @@ class AsTheWordsTellIt(unittest.TestCase):
         for wide, high, passages in all_open():
             around = beside(wide, high, passages)
             bytes_drawn = drawing(wide, high, passages)
-            last = wide * high - 1
-            for start in {0, wide - 1, last // 2, last - wide + 1, last}:
+            for start in some_squares(wide, high):
                 self.assertEqual(walk(start, bytes_drawn), [0] + told_walk(around, start))
 
 
 class GoesOnAlike(unittest.TestCase):
     """Whatever stands at no square come to is turned about; the walk can't have known it."""
 
-    def turned(self, wide, high, passages, seen):
-        """The drawing with every inner side turned about that is at none of these squares."""
-        sides = inner_sides(wide, high)
-        elsewhere = [number for number, pair in enumerate(sides) if not seen & set(pair)]
-        return drawing(wide, high, set(passages) ^ set(elsewhere))
-
     def test_other_rooms_do_not_count(self):
-        turned_any = False
+        any_turned = False
         for wide, high, passages in thrown_gardens(3, 200):
             around = beside(wide, high, passages)
             before = drawing(wide, high, passages)
             for start in range(wide * high):
-                after = self.turned(wide, high, passages, room(around, start))
-                turned_any = turned_any or after != before
+                after = turned(wide, high, passages, room(around, start))
+                any_turned = any_turned or after != before
                 self.assertEqual(walk(start, after), walk(start, before))
-        self.assertTrue(turned_any)
+        self.assertTrue(any_turned)
 
     def test_squares_not_yet_come_to_do_not_count(self):
         chances = Chances(4)
@@ -92,5 +79,5 @@ class GoesOnAlike(unittest.TestCase):
             answer = walk(start, drawing(wide, high, passages))
             for steps in range(len(answer) - 1):
                 seen = set(answer[1:steps + 2])
-                other = walk(start, self.turned(wide, high, passages, seen))
+                other = walk(start, turned(wide, high, passages, seen))
                 self.assertEqual(other[:steps + 3], answer[:steps + 3])

@@ -1,12 +1,13 @@
-"""Refusals of walk, and which of several counts."""
+"""Refusals, and which of several counts."""
 
 import unittest
 
 from tests.helper import drawing, inner_places, inner_sides, open_garden, signs, thrown_gardens
-from threadwalk.desk import walk
+from threadwalk.desk import at, walk
 
 TOO_LONG = [-2]
 NO_SQUARE = [-4]
+TOO_FEW = [-5]
 AT_FAULT = [-6]
 LARGEST = 4294967295
 
@@ -30,37 +31,49 @@ STACKED = """
 """
 
 
-class TooLong(unittest.TestCase):
+def answers(s, garden):
+    """What each call answers, with few steps and with more than any walk has."""
+    return [walk(s, garden), at(s, 0, garden), at(s, 1, garden), at(s, LARGEST, garden)]
+
+
+class Refusals(unittest.TestCase):
+    def assert_refused(self, s, garden, refusal):
+        self.assertEqual(answers(s, garden), [refusal] * 4)
+
+    def assert_at_fault(self, garden):
+        self.assert_refused(0, garden, AT_FAULT)
+
+    def assert_no_fault(self, garden):
+        self.assertEqual(walk(0, garden)[:2], [0, 0])
+        self.assertEqual(at(0, 0, garden), [0, 0, 0, 1])
+        self.assertEqual(at(0, LARGEST, garden), TOO_FEW)
+
+
+class TooLong(Refusals):
     def test_1024_bytes_are_not_too_many(self):
         for sign in (0, 10, 32, 43, 45, 124, 255):
-            self.assertEqual(walk(0, [sign] * 1024), AT_FAULT)
+            self.assert_refused(0, [sign] * 1024, AT_FAULT)
 
     def test_1025_bytes_are_too_many(self):
         for sign in (0, 10, 32, 43, 45, 124, 255):
-            self.assertEqual(walk(0, [sign] * 1025), TOO_LONG)
+            self.assert_refused(0, [sign] * 1025, TOO_LONG)
 
     def test_4000_bytes_are_too_many(self):
-        self.assertEqual(walk(0, [32] * 4000), TOO_LONG)
+        self.assert_refused(0, [32] * 4000, TOO_LONG)
 
     def test_a_drawing_with_bytes_behind_it(self):
         garden = open_garden(10, 10)
-        self.assertEqual(walk(0, garden + [10] * (1024 - len(garden))), AT_FAULT)
-        self.assertEqual(walk(0, garden + [10] * (1025 - len(garden))), TOO_LONG)
-        self.assertEqual(walk(0, garden + [10] * (4000 - len(garden))), TOO_LONG)
+        self.assert_refused(0, garden + [10] * (1024 - len(garden)), AT_FAULT)
+        self.assert_refused(0, garden + [10] * (1025 - len(garden)), TOO_LONG)
+        self.assert_refused(0, garden + [10] * (4000 - len(garden)), TOO_LONG)
 
     def test_a_drawing_by_its_form_that_is_too_long(self):
         wide = signs("+" + "-+" * 200 + "\n|" + " |" * 200 + "\n+" + "-+" * 200)
         self.assertGreater(len(wide), 1024)
-        self.assertEqual(walk(0, wide), TOO_LONG)
+        self.assert_refused(0, wide, TOO_LONG)
 
 
-class AtFault(unittest.TestCase):
-    def assert_at_fault(self, garden):
-        self.assertEqual(walk(0, garden), AT_FAULT)
-
-    def assert_no_fault(self, garden):
-        self.assertEqual(walk(0, garden)[:2], [0, 0])
-
+class AtFault(Refusals):
     def test_the_empty_drawing(self):
         self.assert_at_fault([])
 
@@ -122,7 +135,7 @@ class AtFault(unittest.TestCase):
 
     def test_a_row_behind_its_end_is_a_row_more(self):
         garden = signs("+-+\n| |\n+-+")
-        self.assertEqual(walk(1, garden), NO_SQUARE)
+        self.assert_refused(1, garden, NO_SQUARE)
         self.assertEqual(walk(1, garden + garden[4:]), [0, 1])
         self.assert_at_fault(garden + garden[4:8])
 
@@ -191,34 +204,34 @@ class AtFault(unittest.TestCase):
         self.assert_at_fault(list("\n+-+\n| |\n+-+\n".encode()))
 
 
-class NoSuchSquare(unittest.TestCase):
+class NoSuchSquare(Refusals):
     def test_about_the_number_of_squares(self):
         for wide, high in ((1, 1), (1, 10), (10, 1), (4, 3), (3, 4), (10, 10)):
             garden = open_garden(wide, high)
             count = wide * high
             self.assertEqual(walk(count - 1, garden)[:2], [0, count - 1])
-            self.assertEqual(walk(count, garden), NO_SQUARE)
-            self.assertEqual(walk(count + 1, garden), NO_SQUARE)
-            self.assertEqual(walk(LARGEST, garden), NO_SQUARE)
+            self.assert_refused(count, garden, NO_SQUARE)
+            self.assert_refused(count + 1, garden, NO_SQUARE)
+            self.assert_refused(LARGEST, garden, NO_SQUARE)
 
     def test_in_a_garden_of_hedges_alone(self):
         garden = drawing(3, 3, [])
         self.assertEqual(walk(8, garden), [0, 8])
-        self.assertEqual(walk(9, garden), NO_SQUARE)
+        self.assert_refused(9, garden, NO_SQUARE)
 
 
-class WhichCounts(unittest.TestCase):
+class WhichCounts(Refusals):
     def test_at_fault_and_too_long(self):
         garden = signs(SMALL) + [0] * 1024
-        self.assertEqual(walk(0, garden), TOO_LONG)
+        self.assert_refused(0, garden, TOO_LONG)
 
     def test_too_long_and_no_such_square(self):
-        self.assertEqual(walk(LARGEST, [0] * 1025), TOO_LONG)
-        self.assertEqual(walk(LARGEST, signs(SMALL) + [0] * 1024), TOO_LONG)
+        self.assert_refused(LARGEST, [0] * 1025, TOO_LONG)
+        self.assert_refused(LARGEST, signs(SMALL) + [0] * 1024, TOO_LONG)
 
     def test_at_fault_and_no_such_square(self):
         garden = signs(SMALL)
-        self.assertEqual(walk(6, garden), NO_SQUARE)
-        self.assertEqual(walk(6, garden[:-1]), AT_FAULT)
-        self.assertEqual(walk(LARGEST, garden + [32]), AT_FAULT)
-        self.assertEqual(walk(LARGEST, []), AT_FAULT)
+        self.assert_refused(6, garden, NO_SQUARE)
+        self.assert_refused(6, garden[:-1], AT_FAULT)
+        self.assert_refused(LARGEST, garden + [32], AT_FAULT)
+        self.assert_refused(LARGEST, [], AT_FAULT)

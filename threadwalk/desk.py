@@ -1,16 +1,30 @@
 """The desk: answers each call by itself, with a list of whole numbers."""
 
-from threadwalk.drawing import drawing_refusal
-from threadwalk.garden import Garden
-from threadwalk.walking import squares_walked
+from threadwalk.garden import Garden, square_refusal
+from threadwalk.walking import Walker
 
 
 def walk(s, garden):
     """0 and all squares that the walk from s comes to, or a refusal alone: -2, -6, or -4 for no such square."""
-    refusal = drawing_refusal(garden)
+    refusal = square_refusal(s, garden)
     if refusal != 0:
         return [refusal]
-    plan = Garden(garden)
-    if not plan.has_square(s):
-        return [-4]
-    return [0] + squares_walked(plan, s)
+    walker = Walker(Garden(garden), s)
+    answer = [0, s]
+    while walker.take_step():
+        answer.append(walker.here())
+    return answer
+
+
+def at(s, i, garden):
+    """0 and what holds after i steps: the square, the passages of the thread that lies, the squares seen.
+
+    Or a refusal alone: -2, -6, -4 for no such square, -5 for a walk with fewer steps.
+    """
+    refusal = square_refusal(s, garden)
+    if refusal != 0:
+        return [refusal]
+    walker = Walker(Garden(garden), s)
+    if not walker.take_steps(i):
+        return [-5]
+    return [0, walker.here(), len(walker.thread) - 1, len(walker.seen)]

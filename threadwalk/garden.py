@@ -1,6 +1,16 @@
 """A garden, as it is read from its drawing."""
 
-from threadwalk.drawing import BLANK, ROW_END
+from threadwalk.drawing import BLANK, ROW_END, drawing_refusal
+
+
+def square_refusal(square, signs):
+    """The drawing's refusal if it has one, -4 if its garden has no such square, 0 if it has it."""
+    refusal = drawing_refusal(signs)
+    if refusal != 0:
+        return refusal
+    if not Garden(signs).has_square(square):
+        return -4
+    return 0
 
 
 class Garden:
