@@ -2,8 +2,8 @@
 
 import unittest
 
-from tests.helper import drawing, inner_places, inner_sides, open_garden, signs, thrown_gardens
-from threadwalk.desk import at, walk
+from tests.helper import ROOMS, drawing, inner_places, inner_sides, open_garden, signs, thrown_gardens
+from threadwalk.desk import at, lies, walk
 
 TOO_LONG = [-2]
 NO_SQUARE = [-4]
@@ -32,13 +32,13 @@ STACKED = """
 
 
 def answers(s, garden):
-    """What each call answers, with few steps and with more than any walk has."""
-    return [walk(s, garden), at(s, 0, garden), at(s, 1, garden), at(s, LARGEST, garden)]
+    """What each call answers, with no step and with more than any walk has."""
+    return [walk(s, garden)] + [call(s, i, garden) for call in (at, lies) for i in (0, LARGEST)]
 
 
 class Refusals(unittest.TestCase):
     def assert_refused(self, s, garden, refusal):
-        self.assertEqual(answers(s, garden), [refusal] * 4)
+        self.assertEqual(answers(s, garden), [refusal] * 5)
 
     def assert_at_fault(self, garden):
         self.assert_refused(0, garden, AT_FAULT)
@@ -46,7 +46,9 @@ class Refusals(unittest.TestCase):
     def assert_no_fault(self, garden):
         self.assertEqual(walk(0, garden)[:2], [0, 0])
         self.assertEqual(at(0, 0, garden), [0, 0, 0, 1])
+        self.assertEqual(lies(0, 0, garden), [0, 0])
         self.assertEqual(at(0, LARGEST, garden), TOO_FEW)
+        self.assertEqual(lies(0, LARGEST, garden), TOO_FEW)
 
 
 class TooLong(Refusals):
@@ -107,7 +109,7 @@ class AtFault(Refusals):
     def test_each_byte_made_another(self):
         self.assert_each_byte_counts(1, 1, [])
         self.assert_each_byte_counts(3, 2, [0, 1, 3, 4, 6])
-        for wide, high, passages in thrown_gardens(6, 5):
+        for wide, high, passages in thrown_gardens(6, 2):
             self.assert_each_byte_counts(wide, high, passages)
 
     def test_each_byte_of_the_largest_made_another_sign(self):
@@ -220,6 +222,25 @@ class NoSuchSquare(Refusals):
         self.assert_refused(9, garden, NO_SQUARE)
 
 
+class TooFewSteps(Refusals):
+    def assert_has_steps(self, s, garden, steps):
+        for call in (at, lies):
+            self.assertEqual(call(s, steps, garden)[:2], [0, s])
+            for more in (steps + 1, steps + 2, 2 * steps + 1, 361, LARGEST - 1, LARGEST):
+                self.assertEqual(call(s, more, garden), TOO_FEW)
+
+    def test_about_the_number_of_steps(self):
+        for wide, high in ((1, 1), (1, 10), (10, 1), (4, 3), (3, 4), (10, 10)):
+            for square in (0, wide * high // 2, wide * high - 1):
+                self.assert_has_steps(square, drawing(wide, high, []), 0)
+                self.assert_has_steps(square, open_garden(wide, high), 2 * len(inner_sides(wide, high)))
+
+    def test_the_passages_of_other_rooms_are_no_steps(self):
+        garden = signs(ROOMS)
+        for square, steps in ((0, 8), (5, 8), (6, 0), (2, 12), (11, 12)):
+            self.assert_has_steps(square, garden, steps)
+
+
 class WhichCounts(Refusals):
     def test_at_fault_and_too_long(self):
         garden = signs(SMALL) + [0] * 1024
@@ -235,3 +256,14 @@ class WhichCounts(Refusals):
         self.assert_refused(6, garden[:-1], AT_FAULT)
         self.assert_refused(LARGEST, garden + [32], AT_FAULT)
         self.assert_refused(LARGEST, [], AT_FAULT)
+
+    def test_too_few_steps_and_each_other(self):
+        garden = signs(SMALL)
+        for call in (at, lies):
+            self.assertEqual(call(5, LARGEST, garden), TOO_FEW)
+            self.assertEqual(call(6, LARGEST, garden), NO_SQUARE)
+            self.assertEqual(call(LARGEST, LARGEST, garden), NO_SQUARE)
+            self.assertEqual(call(5, LARGEST, garden[:-1]), AT_FAULT)
+            self.assertEqual(call(6, LARGEST, garden[:-1]), AT_FAULT)
+            self.assertEqual(call(5, LARGEST, garden + [10] * 1024), TOO_LONG)
+            self.assertEqual(call(6, LARGEST, garden + [10] * 1024), TOO_LONG)

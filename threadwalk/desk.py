@@ -28,3 +28,14 @@ def at(s, i, garden):
     if not walker.take_steps(i):
         return [-5]
     return [0, walker.here(), len(walker.thread) - 1, len(walker.seen)]
+
+
+def lies(s, i, garden):
+    """0 and the squares of the thread that lies after i steps, from s on, or a refusal alone, as of at."""
+    refusal = square_refusal(s, garden)
+    if refusal != 0:
+        return [refusal]
+    walker = Walker(Garden(garden), s)
+    if not walker.take_steps(i):
+        return [-5]
+    return [0] + walker.thread
