@@ -107,6 +107,19 @@ def room(around, start):
     return found
 
 
+def ways(around, start, end):
+    """Every way from a square to another that passes no square twice."""
+    found = []
+    left = [[start]]
+    while left:
+        way = left.pop()
+        if way[-1] == end:
+            found.append(way)
+        else:
+            left += [way + [other] for other in around[way[-1]] if other not in way]
+    return found
+
+
 def goes_on(around, squares):
     """The square that a walk which came to these squares comes to next, or None where it is ended."""
     here = squares[-1]
@@ -184,6 +197,28 @@ def small_gardens(most_sides):
     return answer
 
 
+def thrown_trees(seed, count):
+    """So many gardens of all sizes that are one room without rings: (wide, high, passages)."""
+    chances = Chances(seed)
+    answer = []
+    for _ in range(count):
+        wide = 1 + chances.below(WIDEST)
+        high = 1 + chances.below(HIGHEST)
+        sides = inner_sides(wide, high)
+        left = list(range(len(sides)))
+        passages = []
+        rooms = [{square} for square in range(wide * high)]
+        while left:
+            number = left.pop(chances.below(len(left)))
+            one, other = [next(part for part in rooms if square in part) for square in sides[number]]
+            if one is not other:
+                passages.append(number)
+                rooms.remove(other)
+                one |= other
+        answer.append((wide, high, sorted(passages)))
+    return answer
+
+
 def all_open():
     """A garden with all passages of each size: (wide, high, passages)."""
     sizes = [(wide, high) for wide in range(1, WIDEST + 1) for high in range(1, HIGHEST + 1)]
@@ -194,6 +229,22 @@ def some_squares(wide, high):
     """The squares at the corners and one about the middle."""
     last = wide * high - 1
     return sorted({0, wide - 1, last // 2, last - wide + 1, last})
+
+
+def starts_of_all_kinds(seed):
+    """Small, thrown, open and the largest gardens, with squares to begin at: (wide, high, passages, start)."""
+    for wide, high, passages in small_gardens(7):
+        for start in range(wide * high):
+            yield wide, high, passages, start
+    for wide, high, passages in thrown_gardens(seed, 40):
+        for start in some_squares(wide, high):
+            yield wide, high, passages, start
+    for count in range(1, WIDEST + 1):
+        for start in range(count):
+            yield count, 1, range(count - 1), start
+            yield 1, count, range(count - 1), start
+    for start in some_squares(WIDEST, HIGHEST):
+        yield WIDEST, HIGHEST, range(len(inner_sides(WIDEST, HIGHEST))), start
 
 
 def snake():

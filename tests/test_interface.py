@@ -7,7 +7,7 @@ import sys
 import unittest
 
 from tests.helper import drawing, open_garden, signs, snake, thrown_gardens
-from threadwalk.desk import at, lies, walk
+from threadwalk.desk import at, finds, lies, walk
 
 LARGEST = 4294967295
 
@@ -15,6 +15,7 @@ ARGUMENTS = (
     (walk, ["s", "garden"]),
     (at, ["s", "i", "garden"]),
     (lies, ["s", "i", "garden"]),
+    (finds, ["s", "u", "garden"]),
 )
 
 
@@ -35,7 +36,7 @@ def calls():
     numbers = []
     for s in (0, 7, LARGEST):
         numbers.append((walk, (s,)))
-        numbers += [(call, (s, i)) for call in (at, lies) for i in (0, 1, 6, 20, LARGEST)]
+        numbers += [(call, (s, number)) for call in (at, lies, finds) for number in (0, 1, 6, 20, LARGEST)]
     return [(call, ahead, garden) for garden in gardens for call, ahead in numbers]
 
 
@@ -48,6 +49,8 @@ class Interface(unittest.TestCase):
         self.assertEqual(walk(s=1, garden=open_garden(2, 1)), [0, 1, 0, 1])
         self.assertEqual(at(s=1, i=2, garden=open_garden(2, 1)), [0, 1, 0, 2])
         self.assertEqual(lies(s=1, i=1, garden=open_garden(2, 1)), [0, 1, 0])
+        self.assertEqual(finds(s=2, u=3, garden=open_garden(4, 1)), [0, 1])
+        self.assertEqual(finds(s=3, u=1, garden=open_garden(4, 1)), [0, 2])
 
     def test_they_give_back_a_list_of_whole_numbers(self):
         for call, ahead, garden in calls():
@@ -85,14 +88,17 @@ class Interface(unittest.TestCase):
         self.assertEqual(walk(0, garden), [0, 0, 1, 0])
         self.assertEqual(at(0, 1, garden), [0, 1, 1, 2])
         self.assertEqual(lies(0, 1, garden), [0, 0, 1])
+        self.assertEqual(finds(0, 1, garden), [0, 1])
         garden[8] = ord("|")
         self.assertEqual(walk(0, garden), [0, 0])
         self.assertEqual(at(0, 1, garden), [-5])
         self.assertEqual(lies(0, 1, garden), [-5])
+        self.assertEqual(finds(0, 1, garden), [-5])
         garden[8] = ord("x")
         self.assertEqual(walk(0, garden), [-6])
         self.assertEqual(at(0, 1, garden), [-6])
         self.assertEqual(lies(0, 1, garden), [-6])
+        self.assertEqual(finds(0, 1, garden), [-6])
 
     def test_they_print_nothing(self):
         printed = io.StringIO()
@@ -106,9 +112,9 @@ class Interface(unittest.TestCase):
         limit = sys.getrecursionlimit()
         sys.setrecursionlimit(len(inspect.stack()) + 30)
         try:
-            answers = [walk(0, garden), at(0, 99, garden), lies(0, 99, garden)]
+            answers = [walk(0, garden), at(0, 99, garden), lies(0, 99, garden), finds(0, 90, garden)]
             refusals = [at(0, LARGEST, garden), lies(0, LARGEST, garden)]
         finally:
             sys.setrecursionlimit(limit)
-        self.assertEqual(answers, [[0] + way + way[-2::-1], [0, 90, 99, 100], [0] + way])
+        self.assertEqual(answers, [[0] + way + way[-2::-1], [0, 90, 99, 100], [0] + way, [0, 99]])
         self.assertEqual(refusals, [[-5], [-5]])

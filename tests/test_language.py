@@ -36,7 +36,7 @@ NAMES_NOT_USED = set("""
     copyright credits delattr dir eval exec exit gc getattr globals hasattr help id importlib license locals
     methodcaller os quit setattr super type vars sys format format_map
 """.split())
-INTERFACE = ("walk", "at", "lies")
+INTERFACE = ("walk", "at", "lies", "finds")
 
 
 def sources():

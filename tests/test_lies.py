@@ -4,7 +4,7 @@ import unittest
 
 from tests.helper import (
     ONE_SQUARE, RING, ROOMS, TALL, Chances, beside, drawing, inner_sides, open_garden, room, signs, small_gardens,
-    snake, some_squares, thrown_gardens, told_thread, told_walk, turned,
+    snake, some_squares, starts_of_all_kinds, thrown_gardens, told_thread, told_walk, turned,
 )
 from threadwalk.desk import at, lies, walk
 
@@ -125,25 +125,9 @@ class AsTheWordsTellIt(unittest.TestCase):
         for steps in (len(squares), len(squares) + 1, 2 * len(squares), 361, LARGEST):
             self.assertEqual(lies(start, steps, bytes_drawn), TOO_FEW, (wide, high, passages, start))
 
-    def test_all_small_gardens(self):
-        for wide, high, passages in small_gardens(7):
-            for start in range(wide * high):
-                self.assert_told(wide, high, passages, start)
-
-    def test_thrown_gardens(self):
-        for wide, high, passages in thrown_gardens(14, 40):
-            for start in some_squares(wide, high):
-                self.assert_told(wide, high, passages, start)
-
-    def test_open_rows_and_columns(self):
-        for count in range(1, 11):
-            for start in range(count):
-                self.assert_told(count, 1, range(count - 1), start)
-                self.assert_told(1, count, range(count - 1), start)
-
-    def test_ten_by_ten(self):
-        for start in some_squares(10, 10):
-            self.assert_told(10, 10, range(len(inner_sides(10, 10))), start)
+    def test_gardens_of_all_kinds(self):
+        for wide, high, passages, start in starts_of_all_kinds(14):
+            self.assert_told(wide, high, passages, start)
 
 
 class AWayBack(unittest.TestCase):

@@ -3,11 +3,12 @@
 import unittest
 
 from tests.helper import ROOMS, drawing, inner_places, inner_sides, open_garden, signs, thrown_gardens
-from threadwalk.desk import at, lies, walk
+from threadwalk.desk import at, finds, lies, walk
 
 TOO_LONG = [-2]
 NO_SQUARE = [-4]
 TOO_FEW = [-5]
+NEVER = [-5]
 AT_FAULT = [-6]
 LARGEST = 4294967295
 
@@ -32,13 +33,15 @@ STACKED = """
 
 
 def answers(s, garden):
-    """What each call answers, with no step and with more than any walk has."""
-    return [walk(s, garden)] + [call(s, i, garden) for call in (at, lies) for i in (0, LARGEST)]
+    """What each call answers, with no step and with more than any walk has; finds from, to and at the square."""
+    stepping = [call(s, i, garden) for call in (at, lies) for i in (0, LARGEST)]
+    finding = [finds(s, 0, garden), finds(0, s, garden), finds(s, s, garden)]
+    return [walk(s, garden)] + stepping + finding
 
 
 class Refusals(unittest.TestCase):
     def assert_refused(self, s, garden, refusal):
-        self.assertEqual(answers(s, garden), [refusal] * 5)
+        self.assertEqual(answers(s, garden), [refusal] * 8)
 
     def assert_at_fault(self, garden):
         self.assert_refused(0, garden, AT_FAULT)
@@ -49,6 +52,7 @@ class Refusals(unittest.TestCase):
         self.assertEqual(lies(0, 0, garden), [0, 0])
         self.assertEqual(at(0, LARGEST, garden), TOO_FEW)
         self.assertEqual(lies(0, LARGEST, garden), TOO_FEW)
+        self.assertEqual(finds(0, 0, garden), [0, 0])
 
 
 class TooLong(Refusals):
@@ -221,6 +225,36 @@ class NoSuchSquare(Refusals):
         self.assertEqual(walk(8, garden), [0, 8])
         self.assert_refused(9, garden, NO_SQUARE)
 
+    def test_either_of_the_two_that_finds_is_asked_for(self):
+        for wide, high in ((1, 1), (1, 10), (10, 1), (4, 3), (3, 4), (10, 10)):
+            for garden in (open_garden(wide, high), drawing(wide, high, [])):
+                last = wide * high - 1
+                self.assertEqual(finds(last, last, garden), [0, 0])
+                for missing in (last + 1, last + 2, 1024, LARGEST - 1, LARGEST):
+                    for other in (0, last, last + 1, LARGEST):
+                        self.assertEqual(finds(missing, other, garden), NO_SQUARE)
+                        self.assertEqual(finds(other, missing, garden), NO_SQUARE)
+
+
+class NeverComeTo(Refusals):
+    def test_squares_of_other_rooms(self):
+        garden = signs(ROOMS)
+        rooms = ((0, 1, 4, 5), (6,), (2, 3, 7, 8, 9, 10, 11))
+        for one in rooms:
+            for other in rooms:
+                for s in one:
+                    for u in other:
+                        if one == other:
+                            self.assertEqual(finds(s, u, garden)[0], 0)
+                        else:
+                            self.assertEqual(finds(s, u, garden), NEVER)
+
+    def test_in_a_garden_of_hedges_alone(self):
+        garden = drawing(10, 10, [])
+        for s in range(100):
+            for u in range(100):
+                self.assertEqual(finds(s, u, garden), [0, 0] if s == u else NEVER)
+
 
 class TooFewSteps(Refusals):
     def assert_has_steps(self, s, garden, steps):
@@ -267,3 +301,14 @@ class WhichCounts(Refusals):
             self.assertEqual(call(6, LARGEST, garden[:-1]), AT_FAULT)
             self.assertEqual(call(5, LARGEST, garden + [10] * 1024), TOO_LONG)
             self.assertEqual(call(6, LARGEST, garden + [10] * 1024), TOO_LONG)
+
+    def test_never_come_to_and_each_other(self):
+        rooms = signs(ROOMS)
+        self.assertEqual(finds(6, 0, rooms), NEVER)
+        for s, u in ((6, 12), (12, 6), (0, LARGEST), (LARGEST, 0), (12, LARGEST)):
+            self.assertEqual(finds(s, u, rooms), NO_SQUARE)
+        for s, u in ((6, 0), (6, 12), (12, 6), (12, 12), (LARGEST, LARGEST)):
+            self.assertEqual(finds(s, u, rooms[:-1]), AT_FAULT)
+            self.assertEqual(finds(s, u, []), AT_FAULT)
+            self.assertEqual(finds(s, u, rooms + [10] * 1024), TOO_LONG)
+            self.assertEqual(finds(s, u, [10] * 4000), TOO_LONG)

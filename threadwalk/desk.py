@@ -39,3 +39,21 @@ def lies(s, i, garden):
     if not walker.take_steps(i):
         return [-5]
     return [0] + walker.thread
+
+
+def finds(s, u, garden):
+    """0 and after how many steps of the walk from s square u is first come to, or a refusal alone.
+
+    The refusals: -2, -6, -4 if either is no such square, -5 if the walk never comes to u.
+    """
+    # Squares are numbered from 0 without a gap: if one of the two is missing, the greater is.
+    refusal = square_refusal(max(s, u), garden)
+    if refusal != 0:
+        return [refusal]
+    walker = Walker(Garden(garden), s)
+    steps = 0
+    while walker.here() != u:
+        if not walker.take_step():
+            return [-5]
+        steps += 1
+    return [0, steps]
