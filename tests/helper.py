@@ -136,6 +136,17 @@ def goes_on(around, squares):
     return squares[first - 1] if first > 0 else None
 
 
+def told_side(wide, around, squares):
+    """The side that a walk which came to these squares goes on by, or 4 where it is ended."""
+    then = goes_on(around, squares)
+    if then is None:
+        return 4
+    here = squares[-1]
+    if here // wide == then // wide:
+        return 1 if then > here else 3
+    return 2 if then > here else 0
+
+
 def told_walk(around, start):
     """The whole walk, each square found anew from those before it."""
     squares = [start]

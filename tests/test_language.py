@@ -23,6 +23,11 @@ OWN_NAMES = set("""
     ord repr any all divmod Exception ValueError TypeError KeyError IndexError LookupError ZeroDivisionError
     ArithmeticError OverflowError RuntimeError NotImplementedError AttributeError StopIteration
 """.split())
+OWN_FUNCTIONS = OWN_NAMES & set("""
+    len range enumerate zip min max sum abs sorted reversed isinstance ord repr any all divmod set frozenset
+""".split())
+WALKED_AT_ONCE = ("range", "enumerate", "zip", "reversed", "items", "keys", "values")
+WALKS_ITS_FIRST = ("list", "tuple", "dict", "sorted", "sum", "any", "all", "enumerate", "zip", "min", "max", "join")
 OWN_METHODS = set("""
     append clear copy count endswith extend find get index insert isalnum isalpha isdigit islower isspace isupper
     items join keys ljust lower lstrip partition pop remove replace reverse rfind rjust rpartition rsplit rstrip
@@ -36,13 +41,18 @@ NAMES_NOT_USED = set("""
     copyright credits delattr dir eval exec exit gc getattr globals hasattr help id importlib license locals
     methodcaller os quit setattr super type vars sys format format_map
 """.split())
-INTERFACE = ("walk", "at", "lies", "finds")
+INTERFACE = ("walk", "at", "lies", "finds", "next_side")
 
 
 def sources():
     """Each file of the package: (path, text, tree)."""
     paths = sorted(PACKAGE.rglob("*.py"))
     return [(path, path.read_text("ascii"), ast.parse(path.read_text("ascii"))) for path in paths]
+
+
+def called_name(node):
+    """The name of what is called, of a function or of a method."""
+    return node.func.attr if isinstance(node.func, ast.Attribute) else getattr(node.func, "id", None)
 
 
 def bound_names(tree):
@@ -93,6 +103,17 @@ class Language(unittest.TestCase):
             self.assertTrue(home.is_file(), where)
             for alias in node.names:
                 self.assertIn(alias.name, self.defined_at_top(ast.parse(home.read_text("ascii"))), where)
+
+    def test_no_file_draws_from_itself_by_others(self):
+        draws = {}
+        for path, _, tree in sources():
+            imports = [node for node in ast.walk(tree) if isinstance(node, ast.ImportFrom)]
+            draws[path.stem] = {node.module.split(".", 1)[1] for node in imports}
+        while draws:
+            free = [name for name, others in draws.items() if not others & set(draws)]
+            self.assertTrue(free, draws)
+            for name in free:
+                del draws[name]
 
     def defined_at_top(self, tree):
         names = [node.name for node in tree.body if isinstance(node, (ast.FunctionDef, ast.ClassDef))]
@@ -146,6 +167,49 @@ class Language(unittest.TestCase):
         for node, where in self.each(ast.ClassDef):
             self.assertEqual(node.decorator_list, [], where)
             self.assertLessEqual(len(node.bases), 1, where)
+
+    def test_no_annotations(self):
+        for node, where in self.each(ast.FunctionDef):
+            self.assertIsNone(node.returns, where)
+        for node, where in self.each(ast.arg):
+            self.assertIsNone(node.annotation, where)
+        for _, where in self.each(ast.AnnAssign):
+            self.fail(where)
+
+    def test_own_functions_of_python_are_called(self):
+        for path, _, tree in sources():
+            called = {node.func for node in ast.walk(tree) if isinstance(node, ast.Call)}
+            for node in ast.walk(tree):
+                if isinstance(node, ast.Name) and node.id in OWN_FUNCTIONS:
+                    self.assertIn(node, called, f"{path.name}, line {node.lineno}")
+
+    def test_what_is_walked_at_once_is_not_kept(self):
+        for path, _, tree in sources():
+            walked = self.walked_on_the_spot(tree)
+            for node in ast.walk(tree):
+                if isinstance(node, ast.Call) and called_name(node) in WALKED_AT_ONCE:
+                    self.assertIn(node, walked, f"{path.name}, line {node.lineno}")
+
+    def walked_on_the_spot(self, tree):
+        walked = set()
+        for node in ast.walk(tree):
+            if isinstance(node, (ast.For, ast.comprehension)):
+                walked.add(node.iter)
+            elif isinstance(node, ast.Call) and called_name(node) in WALKS_ITS_FIRST:
+                walked |= set(node.args[:1])
+        return walked
+
+    def test_no_local_is_called_like_a_class_or_an_import(self):
+        for path, _, tree in sources():
+            taken = {node.name for node in ast.walk(tree) if isinstance(node, ast.ClassDef)}
+            for node in ast.walk(tree):
+                if isinstance(node, ast.ImportFrom):
+                    taken |= {alias.name for alias in node.names}
+            for node in ast.walk(tree):
+                if isinstance(node, ast.arg):
+                    self.assertNotIn(node.arg, taken, path.name)
+                elif isinstance(node, ast.Name) and isinstance(node.ctx, ast.Store):
+                    self.assertNotIn(node.id, taken, path.name)
 
     def test_names(self):
         for path, _, tree in sources():

@@ -3,13 +3,14 @@
 import unittest
 
 from tests.helper import ROOMS, drawing, inner_places, inner_sides, open_garden, signs, thrown_gardens
-from threadwalk.desk import at, finds, lies, walk
+from threadwalk.desk import at, finds, lies, next_side, walk
 
 TOO_LONG = [-2]
 NO_SQUARE = [-4]
 TOO_FEW = [-5]
 NEVER = [-5]
 AT_FAULT = [-6]
+NO_BEGINNING = [-9]
 LARGEST = 4294967295
 
 SMALL = """
@@ -42,6 +43,9 @@ def answers(s, garden):
 class Refusals(unittest.TestCase):
     def assert_refused(self, s, garden, refusal):
         self.assertEqual(answers(s, garden), [refusal] * 8)
+        no_beginning = NO_BEGINNING if refusal == NO_SQUARE else refusal
+        self.assertEqual(next_side(garden, [s]), no_beginning)
+        self.assertEqual(next_side(garden, []), no_beginning)
 
     def assert_at_fault(self, garden):
         self.assert_refused(0, garden, AT_FAULT)
@@ -53,6 +57,8 @@ class Refusals(unittest.TestCase):
         self.assertEqual(at(0, LARGEST, garden), TOO_FEW)
         self.assertEqual(lies(0, LARGEST, garden), TOO_FEW)
         self.assertEqual(finds(0, 0, garden), [0, 0])
+        self.assertEqual(next_side(garden, [0])[0], 0)
+        self.assertEqual(next_side(garden, []), NO_BEGINNING)
 
 
 class TooLong(Refusals):
@@ -312,3 +318,24 @@ class WhichCounts(Refusals):
             self.assertEqual(finds(s, u, []), AT_FAULT)
             self.assertEqual(finds(s, u, rooms + [10] * 1024), TOO_LONG)
             self.assertEqual(finds(s, u, [10] * 4000), TOO_LONG)
+
+    def test_no_beginning_and_each_other(self):
+        rooms = signs(ROOMS)
+        self.assertEqual(next_side(rooms, [6]), [0, 4])
+        for squares in ([], [12], [LARGEST], [6, 6], [0, 5], [LARGEST] * 1000, list(range(1000))):
+            self.assertEqual(next_side(rooms, squares), NO_BEGINNING)
+            self.assertEqual(next_side(rooms[:-1], squares), AT_FAULT)
+            self.assertEqual(next_side(rooms + [32], squares), AT_FAULT)
+            self.assertEqual(next_side([], squares), AT_FAULT)
+            self.assertEqual(next_side([10] * 1024, squares), AT_FAULT)
+            self.assertEqual(next_side([10] * 1025, squares), TOO_LONG)
+            self.assertEqual(next_side(rooms + [10] * 1024, squares), TOO_LONG)
+            self.assertEqual(next_side([10] * 4000, squares), TOO_LONG)
+
+    def test_refusals_of_the_drawing_and_a_beginning(self):
+        rooms = signs(ROOMS)
+        squares = walk(2, rooms)[1:]
+        for count in range(1, len(squares) + 1):
+            self.assertEqual(next_side(rooms, squares[:count])[0], 0)
+            self.assertEqual(next_side(rooms[1:], squares[:count]), AT_FAULT)
+            self.assertEqual(next_side(rooms + [10] * 1024, squares[:count]), TOO_LONG)

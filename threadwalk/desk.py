@@ -1,7 +1,8 @@
 """The desk: answers each call by itself, with a list of whole numbers."""
 
+from threadwalk.drawing import drawing_refusal
 from threadwalk.garden import Garden, square_refusal
-from threadwalk.walking import Walker
+from threadwalk.walking import Walker, walker_behind
 
 
 def walk(s, garden):
@@ -57,3 +58,17 @@ def finds(s, u, garden):
             return [-5]
         steps += 1
     return [0, steps]
+
+
+def next_side(garden, squares):
+    """0 and the side that the walk goes on by behind these squares, from its first on, or 4 where it is ended.
+
+    Or a refusal alone: -2, -6, -9 for no squares or squares that are no walk's beginning.
+    """
+    refusal = drawing_refusal(garden)
+    if refusal != 0:
+        return [refusal]
+    walker = walker_behind(squares, Garden(garden))
+    if walker is None:
+        return [-9]
+    return [0, walker.side_ahead()]
